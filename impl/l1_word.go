@@ -26,6 +26,9 @@ type Word struct {
 // bitRow is a number in two's complement, the lowest bit first.
 type bitRow [64]bool
 
+// number is one that is shifted: each mode is one of its methods.
+type number int
+
 // IsWord reports whether w is a word.
 func IsWord(w Word) bool {
 	return w.Bits >= minBits && w.Bits <= maxBits
@@ -284,14 +287,30 @@ func isMode(mode int) bool {
 }
 
 func shifted(x int, shift int, mode int) int {
-	divisor := 1 << shift
+	return roundingOf(mode)(number(x), shift)
+}
+
+func roundingOf(mode int) func(x number, shift int) int {
 	switch mode {
 	case RoundNear:
-		return (x + divisor/2) >> shift
+		return number.near
 	case RoundZero:
-		return x / divisor
+		return number.towardsZero
 	}
-	return x >> shift
+	return number.down
+}
+
+func (x number) down(shift int) int {
+	return int(x) >> shift
+}
+
+func (x number) near(shift int) int {
+	half := number(1<<shift) / 2
+	return (x + half).down(shift)
+}
+
+func (x number) towardsZero(shift int) int {
+	return int(x) / (1 << shift)
 }
 
 // sumOf adds in single precision, which is exact for whole numbers up to 2^24:

@@ -86,3 +86,73 @@ func wantNoList(t *testing.T, what string, got []int, ok bool) {
 		t.Errorf("%s: got %v, %v, want failure", what, got, ok)
 	}
 }
+
+func wantFlag(t *testing.T, what string, got bool, ok bool, want bool) {
+	t.Helper()
+	if got != want || !ok {
+		t.Errorf("%s: got %v, %v, want %v", what, got, ok, want)
+	}
+}
+
+func wantNoFlag(t *testing.T, what string, got bool, ok bool) {
+	t.Helper()
+	if got || ok {
+		t.Errorf("%s: got %v, %v, want failure", what, got, ok)
+	}
+}
+
+// goodWeights meet each limit exactly, among ordinary ones.
+func goodWeights() [][]int {
+	return [][]int{
+		{0},
+		{1},
+		{-1},
+		{5},
+		{1000},
+		{-1000},
+		{1, 1},
+		{1, -1},
+		{0, 2},
+		{1, 2, 1},
+		{-1, 3, 0, -3, 1},
+		{2, -7, 4, -7, 2},
+		{3, 0, 0, -5},
+		repeat(0, impl.MaxWeights),
+		repeat(1, impl.MaxWeights),
+		{4, -3, 2, -1, 0, 1, -2, 3, -4},
+		{1000, -1000, 1000, -1000, 1000, -1000, 1000, -1000, 1000},
+		repeat(-1000, impl.MaxWeights),
+		repeat(1000, impl.MaxWeights),
+	}
+}
+
+// badWeights are one past each limit, and far past them.
+func badWeights() [][]int {
+	return [][]int{
+		nil,
+		{},
+		repeat(1, impl.MaxWeights+1),
+		repeat(0, 1000),
+		{1001},
+		{-1001},
+		{1, 2, maxInt},
+		{minInt, 1},
+	}
+}
+
+// numberSource makes the same numbers in each run.
+type numberSource int
+
+// next returns a number in -size..size.
+func (n *numberSource) next(size int) int {
+	*n = (*n*1103515245 + 12345) % 2147483648
+	return int(*n/65536)%(2*size+1) - size
+}
+
+func (n *numberSource) list(length int, size int) []int {
+	list := make([]int, length)
+	for i := range list {
+		list[i] = n.next(size)
+	}
+	return list
+}

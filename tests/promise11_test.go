@@ -40,6 +40,30 @@ func chapter1() map[string]any {
 	}
 }
 
+// chapter2 are the functions of chapter 2 by their names.
+func chapter2() map[string]any {
+	return map[string]any{
+		"IsWeights":      impl.IsWeights,
+		"FilterSignal":   impl.FilterSignal,
+		"FilterShort":    impl.FilterShort,
+		"FilterInWord":   impl.FilterInWord,
+		"FilterAtEnd":    impl.FilterAtEnd,
+		"TimesWeights":   impl.TimesWeights,
+		"PowerWeights":   impl.PowerWeights,
+		"DivideWeights":  impl.DivideWeights,
+		"GainOf":         impl.GainOf,
+		"GainAtHalf":     impl.GainAtHalf,
+		"SizeGain":       impl.SizeGain,
+		"IsSymmetric":    impl.IsSymmetric,
+		"IsMirrored":     impl.IsMirrored,
+		"BackWeights":    impl.BackWeights,
+		"FoldedProducts": impl.FoldedProducts,
+		"InverseAnswer":  impl.InverseAnswer,
+		"BitsNeeded":     impl.BitsNeeded,
+		"SpreadWeights":  impl.SpreadWeights,
+	}
+}
+
 // argumentsOf are the values that a parameter of a type is tried with.
 func argumentsOf(t *testing.T, kind reflect.Type) []any {
 	switch reflect.Zero(kind).Interface().(type) {
@@ -47,7 +71,7 @@ func argumentsOf(t *testing.T, kind reflect.Type) []any {
 		return []any{minInt, -impl.MaxNumber - 1, -impl.MaxSample, -8, -1, 0, 1, 2, 7, 20, 21, 64, 65, impl.MaxNumber, maxInt}
 	case []int:
 		lists := []any{}
-		for _, s := range slices.Concat(goodSignals(), badSignals()) {
+		for _, s := range slices.Concat(goodSignals(), badSignals(), goodWeights(), badWeights()) {
 			lists = append(lists, s)
 		}
 		return lists
@@ -62,6 +86,34 @@ func argumentsOf(t *testing.T, kind reflect.Type) []any {
 	}
 	t.Fatal("no arguments of", kind)
 	return nil
+}
+
+// fewArgumentsOf are so few that a function with many parameters can be tried
+// with all combinations.
+func fewArgumentsOf(t *testing.T, kind reflect.Type) []any {
+	switch reflect.Zero(kind).Interface().(type) {
+	case int:
+		return []any{minInt, -1, 0, 1, 2, 3, 7, 20, 21, maxInt}
+	case []int:
+		return []any{[]int(nil), []int{}, []int{3, -1, 4}, []int{-1000, 1}, repeat(1, impl.MaxWeights), repeat(1, impl.MaxWeights+1), repeat(-5, impl.MaxSignal), repeat(0, impl.MaxSignal+1), []int{impl.MaxSample}, []int{1, maxInt}, []int{minInt}}
+	case impl.Word:
+		return []any{impl.Word{Bits: 2}, impl.Word{Bits: 4, Wrap: true}, impl.Word{Bits: 16}, impl.Word{}, impl.Word{Bits: maxInt}}
+	}
+	t.Fatal("no arguments of", kind)
+	return nil
+}
+
+// choicesOf are the arguments for each parameter of a function.
+func choicesOf(t *testing.T, f reflect.Type) [][]any {
+	choices := make([][]any, f.NumIn())
+	for i := range choices {
+		if f.NumIn() > 3 {
+			choices[i] = fewArgumentsOf(t, f.In(i))
+		} else {
+			choices[i] = argumentsOf(t, f.In(i))
+		}
+	}
+	return choices
 }
 
 // combinations calls visit with each list of one value for each parameter.
@@ -156,15 +208,11 @@ func zeroIfFailed(out []reflect.Value) bool {
 	return true
 }
 
-func TestPromise11Chapter1(t *testing.T) {
-	for name, function := range chapter1() {
+func checkPromise11(t *testing.T, functions map[string]any) {
+	for name, function := range functions {
 		t.Run(name, func(t *testing.T) {
 			f := reflect.ValueOf(function)
-			choices := make([][]any, f.Type().NumIn())
-			for i := range choices {
-				choices[i] = argumentsOf(t, f.Type().In(i))
-			}
-			combinations(choices, func(arguments []any) {
+			combinations(choicesOf(t, f.Type()), func(arguments []any) {
 				first, broken := callOnce(f, arguments)
 				if broken != "" {
 					t.Errorf("%s%v: %s", name, arguments, broken)
@@ -177,12 +225,30 @@ func TestPromise11Chapter1(t *testing.T) {
 	}
 }
 
+func TestPromise11Chapter1(t *testing.T) {
+	checkPromise11(t, chapter1())
+}
+
+func TestPromise11Chapter2(t *testing.T) {
+	checkPromise11(t, chapter2())
+}
+
 // The same list twice: a function must not write into one by the other.
-func TestPromise11SameSignalTwice(t *testing.T) {
+func TestPromise11SameListTwice(t *testing.T) {
 	s := withRoom([]int{3, -1, 4})
 	list, ok := impl.AddSignals(s, s)
 	wantList(t, "sum", list, ok, []int{6, -2, 8})
 	list, ok = impl.AddSignals(s[:1], s)
 	wantList(t, "sum", list, ok, []int{6, -1, 4})
-	wantList(t, "argument", s, true, []int{3, -1, 4})
+	list, ok = impl.FilterSignal(s[:2], s)
+	wantList(t, "answer", list, ok, []int{9, -6, 13, -4})
+	list, ok = impl.FilterShort(s, s[1:])
+	wantList(t, "short answer", list, ok, []int{-3, 13})
+	list, ok = impl.TimesWeights(s, s)
+	wantList(t, "product", list, ok, []int{9, -6, 25, -8, 16})
+	list, ok = impl.DivideWeights(s, s[:1])
+	wantNoList(t, "quotient", list, ok)
+	list, ok = impl.DivideWeights(s, s)
+	wantList(t, "quotient", list, ok, []int{1})
+	wantList(t, "argument", s[:3+spare], true, slices.Concat([]int{3, -1, 4}, repeat(mark, spare)))
 }

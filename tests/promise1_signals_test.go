@@ -233,13 +233,9 @@ func TestPromise1SumsAndDifferences(t *testing.T) {
 }
 
 func TestPromise1SumsAreUndone(t *testing.T) {
-	seed := 1
+	source := numberSource(1)
 	for length := 0; length <= impl.MaxSignal; length++ {
-		s := make([]int, length)
-		for i := range s {
-			seed = (seed*1103515245 + 12345) % 2147483648
-			s[i] = seed/65536%3001 - 1500
-		}
+		s := source.list(length, 1500)
 		sums, ok := impl.RunningSums(s)
 		if !ok {
 			t.Fatal("no sums of", s)
