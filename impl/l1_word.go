@@ -96,7 +96,7 @@ func IsSignal(s []int) bool {
 		return false
 	}
 	for _, x := range s {
-		if x < -MaxSample || x > MaxSample {
+		if !isSample(x) {
 			return false
 		}
 	}
@@ -272,6 +272,10 @@ func onlySignal(list []int) ([]int, bool) {
 		return nil, false
 	}
 	return list, true
+}
+
+func isSample(x int) bool {
+	return x >= -MaxSample && x <= MaxSample
 }
 
 func isNumber(x int) bool {

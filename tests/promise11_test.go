@@ -64,6 +64,26 @@ func chapter2() map[string]any {
 	}
 }
 
+// chapter3 are the functions of chapter 3 by their names.
+func chapter3() map[string]any {
+	return map[string]any{
+		"IsFirst":       impl.IsFirst,
+		"FirstStep":     impl.FirstStep,
+		"RunFirst":      impl.RunFirst,
+		"ImpulseOf":     impl.ImpulseOf,
+		"CountFits":     impl.CountFits,
+		"FirstPeriod":   impl.FirstPeriod,
+		"RestsOf":       impl.RestsOf,
+		"CyclesOfFirst": impl.CyclesOfFirst,
+		"DeadBand":      impl.DeadBand,
+		"IsShrinking":   impl.IsShrinking,
+		"GainOfFirst":   impl.GainOfFirst,
+		"ExactFirst":    impl.ExactFirst,
+		"ErrorBound":    impl.ErrorBound,
+		"NumbersBefore": impl.NumbersBefore,
+	}
+}
+
 // argumentsOf are the values that a parameter of a type is tried with.
 func argumentsOf(t *testing.T, kind reflect.Type) []any {
 	switch reflect.Zero(kind).Interface().(type) {
@@ -83,9 +103,29 @@ func argumentsOf(t *testing.T, kind reflect.Type) []any {
 			words = append(words, w)
 		}
 		return words
+	case impl.First:
+		filters := []any{impl.First{}}
+		for _, f := range slices.Concat(someFirsts(), badFirsts()) {
+			filters = append(filters, f)
+		}
+		return filters
 	}
 	t.Fatal("no arguments of", kind)
 	return nil
+}
+
+// someFirsts are few filters that meet each limit, some with long cycles.
+func someFirsts() []impl.First {
+	return []impl.First{
+		first(1, 1, impl.RoundDown, hold(4)),
+		first(-3, 2, impl.RoundNear, hold(5)),
+		first(0, 0, impl.RoundZero, wrap(2)),
+		first(3, 0, impl.RoundDown, wrap(8)),
+		first(1024, 10, impl.RoundNear, wrap(impl.MaxScan)),
+		first(-1024, 0, impl.RoundDown, hold(impl.MaxScan+1)),
+		first(1023, 10, impl.RoundZero, hold(16)),
+		first(-1024, 10, impl.RoundNear, wrap(16)),
+	}
 }
 
 // fewArgumentsOf are so few that a function with many parameters can be tried
@@ -141,10 +181,10 @@ func withRoom(s []int) []int {
 	return slices.Concat(s, repeat(mark, spare))[:len(s)]
 }
 
-func overwrite(s []int) {
+func overwrite(s []int, x int) {
 	s = s[:cap(s)]
 	for i := range s {
-		s[i] = -mark
+		s[i] = x
 	}
 }
 
@@ -172,14 +212,33 @@ func callOnce(f reflect.Value, arguments []any) (results string, broken string) 
 		broken = "a failed call with a result: " + results
 	}
 	for _, o := range out {
-		if s, ok := o.Interface().([]int); ok {
-			overwrite(s)
+		switch s := o.Interface().(type) {
+		case []int:
+			overwrite(s, -mark)
+		case [][]int:
+			if broken == "" {
+				broken = sharedBy(s)
+			}
 		}
 	}
 	if broken == "" {
 		broken = brokenBy(in, arguments, "memory shared with argument")
 	}
 	return results, broken
+}
+
+// sharedBy overwrites each list, with the room behind it, and tells whether
+// this changes another one.
+func sharedBy(lists [][]int) string {
+	for i, list := range lists {
+		overwrite(list, -mark-i)
+		for j, other := range lists {
+			if j != i && slices.Contains(other, -mark-i) {
+				return fmt.Sprint("lists share memory: ", i, " ", j)
+			}
+		}
+	}
+	return ""
 }
 
 func brokenBy(in []reflect.Value, arguments []any, what string) string {
@@ -231,6 +290,10 @@ func TestPromise11Chapter1(t *testing.T) {
 
 func TestPromise11Chapter2(t *testing.T) {
 	checkPromise11(t, chapter2())
+}
+
+func TestPromise11Chapter3(t *testing.T) {
+	checkPromise11(t, chapter3())
 }
 
 // The same list twice: a function must not write into one by the other.
