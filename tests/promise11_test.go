@@ -84,6 +84,27 @@ func chapter3() map[string]any {
 	}
 }
 
+// chapter4 are the functions of chapter 4 by their names.
+func chapter4() map[string]any {
+	return map[string]any{
+		"IsSecond":       impl.IsSecond,
+		"SecondStep":     impl.SecondStep,
+		"RunSecond":      impl.RunSecond,
+		"CountPairFits":  impl.CountPairFits,
+		"PairPeriod":     impl.PairPeriod,
+		"CycleOfPair":    impl.CycleOfPair,
+		"PairCycles":     impl.PairCycles,
+		"CountLasting":   impl.CountLasting,
+		"PairBand":       impl.PairBand,
+		"IsInTriangle":   impl.IsInTriangle,
+		"RootsOf":        impl.RootsOf,
+		"ExactSecond":    impl.ExactSecond,
+		"PairsBefore":    impl.PairsBefore,
+		"IsTurnable":     impl.IsTurnable,
+		"SecondOfFirsts": impl.SecondOfFirsts,
+	}
+}
+
 // argumentsOf are the values that a parameter of a type is tried with.
 func argumentsOf(t *testing.T, kind reflect.Type) []any {
 	switch reflect.Zero(kind).Interface().(type) {
@@ -109,6 +130,12 @@ func argumentsOf(t *testing.T, kind reflect.Type) []any {
 			filters = append(filters, f)
 		}
 		return filters
+	case impl.Second:
+		filters := []any{impl.Second{}}
+		for _, f := range slices.Concat(someSeconds(), badSeconds()) {
+			filters = append(filters, f)
+		}
+		return filters
 	}
 	t.Fatal("no arguments of", kind)
 	return nil
@@ -128,6 +155,21 @@ func someFirsts() []impl.First {
 	}
 }
 
+// someSeconds are few filters that meet each limit, some with many or long cycles.
+func someSeconds() []impl.Second {
+	return []impl.Second{
+		second(0, -2, 1, impl.RoundDown, wrap(4)),
+		second(1, 1, 0, impl.RoundZero, wrap(2)),
+		second(-3, 2, 2, impl.RoundNear, hold(5)),
+		second(1024, -1024, 10, impl.RoundNear, wrap(impl.MaxPairBits)),
+		second(0, 1, 0, impl.RoundDown, hold(impl.MaxPairBits)),
+		second(-1024, 1024, 0, impl.RoundDown, hold(impl.MaxPairBits+1)),
+		second(5, 3, 0, impl.RoundZero, wrap(10)),
+		second(1023, 1, 10, impl.RoundZero, hold(11)),
+		second(-1024, -1024, 10, impl.RoundNear, wrap(16)),
+	}
+}
+
 // fewArgumentsOf are so few that a function with many parameters can be tried
 // with all combinations.
 func fewArgumentsOf(t *testing.T, kind reflect.Type) []any {
@@ -138,6 +180,8 @@ func fewArgumentsOf(t *testing.T, kind reflect.Type) []any {
 		return []any{[]int(nil), []int{}, []int{3, -1, 4}, []int{-1000, 1}, repeat(1, impl.MaxWeights), repeat(1, impl.MaxWeights+1), repeat(-5, impl.MaxSignal), repeat(0, impl.MaxSignal+1), []int{impl.MaxSample}, []int{1, maxInt}, []int{minInt}}
 	case impl.Word:
 		return []any{impl.Word{Bits: 2}, impl.Word{Bits: 4, Wrap: true}, impl.Word{Bits: 16}, impl.Word{}, impl.Word{Bits: maxInt}}
+	case impl.Second:
+		return []any{second(0, -2, 1, impl.RoundDown, wrap(4)), second(1, 1, 1, impl.RoundNear, hold(10)), second(-3, 2, 1, impl.RoundZero, wrap(impl.MaxPairBits)), second(1, -1, 1, impl.RoundDown, hold(16)), impl.Second{}, second(1025, 0, 0, impl.RoundDown, hold(4))}
 	}
 	t.Fatal("no arguments of", kind)
 	return nil
@@ -294,6 +338,10 @@ func TestPromise11Chapter2(t *testing.T) {
 
 func TestPromise11Chapter3(t *testing.T) {
 	checkPromise11(t, chapter3())
+}
+
+func TestPromise11Chapter4(t *testing.T) {
+	checkPromise11(t, chapter4())
 }
 
 // The same list twice: a function must not write into one by the other.
