@@ -105,14 +105,37 @@ func chapter4() map[string]any {
 	}
 }
 
+// chapter5 are the functions of chapter 5 by their names.
+func chapter5() map[string]any {
+	return map[string]any{
+		"IsScaled":         impl.IsScaled,
+		"OneBits":          impl.OneBits,
+		"StatesOfBits":     impl.StatesOfBits,
+		"SumGap":           impl.SumGap,
+		"ConstantBits":     impl.ConstantBits,
+		"PeriodOfConstant": impl.PeriodOfConstant,
+		"OnesInPeriod":     impl.OnesInPeriod,
+		"ConstantsOf":      impl.ConstantsOf,
+		"IsBalancedList":   impl.IsBalancedList,
+		"MovingSums":       impl.MovingSums,
+		"RunsOf":           impl.RunsOf,
+		"ShapeSignal":      impl.ShapeSignal,
+		"ShapeErrors":      impl.ShapeErrors,
+		"ShapedSums":       impl.ShapedSums,
+		"GreatestShapeGap": impl.GreatestShapeGap,
+		"TwoBits":          impl.TwoBits,
+		"TwoStates":        impl.TwoStates,
+	}
+}
+
 // argumentsOf are the values that a parameter of a type is tried with.
 func argumentsOf(t *testing.T, kind reflect.Type) []any {
 	switch reflect.Zero(kind).Interface().(type) {
 	case int:
-		return []any{minInt, -impl.MaxNumber - 1, -impl.MaxSample, -8, -1, 0, 1, 2, 7, 20, 21, 64, 65, impl.MaxNumber, maxInt}
+		return []any{minInt, -impl.MaxNumber - 1, -impl.MaxSample, -8, -1, 0, 1, 2, 7, 20, 21, 64, 65, impl.MaxBitList, impl.MaxScale, impl.MaxNumber, maxInt}
 	case []int:
 		lists := []any{}
-		for _, s := range slices.Concat(goodSignals(), badSignals(), goodWeights(), badWeights()) {
+		for _, s := range slices.Concat(goodSignals(), badSignals(), goodWeights(), badWeights(), goodBits(), badBits()) {
 			lists = append(lists, s)
 		}
 		return lists
@@ -217,7 +240,7 @@ func combinations(choices [][]any, visit func([]any)) {
 	choose(0)
 }
 
-const spare = 70
+const spare = 210
 const mark = 424242
 
 // withRoom copies a list and puts marks into the room behind its length.
@@ -342,6 +365,10 @@ func TestPromise11Chapter3(t *testing.T) {
 
 func TestPromise11Chapter4(t *testing.T) {
 	checkPromise11(t, chapter4())
+}
+
+func TestPromise11Chapter5(t *testing.T) {
+	checkPromise11(t, chapter5())
 }
 
 // The same list twice: a function must not write into one by the other.
