@@ -128,11 +128,32 @@ func chapter5() map[string]any {
 	}
 }
 
+// chapter6 are the functions of chapter 6 by their names.
+func chapter6() map[string]any {
+	return map[string]any{
+		"BoxAnswer":    impl.BoxAnswer,
+		"CombGain":     impl.CombGain,
+		"BitsForComb":  impl.BitsForComb,
+		"DropSamples":  impl.DropSamples,
+		"StuffZeros":   impl.StuffZeros,
+		"ExactComb":    impl.ExactComb,
+		"WrappedComb":  impl.WrappedComb,
+		"WrappedSums":  impl.WrappedSums,
+		"WrappedCombs": impl.WrappedCombs,
+		"CountWraps":   impl.CountWraps,
+		"ExactRise":    impl.ExactRise,
+		"WrappedRise":  impl.WrappedRise,
+		"LeastBits":    impl.LeastBits,
+		"MeanBlocks":   impl.MeanBlocks,
+		"BoxDroop":     impl.BoxDroop,
+	}
+}
+
 // argumentsOf are the values that a parameter of a type is tried with.
 func argumentsOf(t *testing.T, kind reflect.Type) []any {
 	switch reflect.Zero(kind).Interface().(type) {
 	case int:
-		return []any{minInt, -impl.MaxNumber - 1, -impl.MaxSample, -8, -1, 0, 1, 2, 7, 20, 21, 64, 65, impl.MaxBitList, impl.MaxScale, impl.MaxNumber, maxInt}
+		return []any{minInt, -impl.MaxNumber - 1, -impl.MaxSample, -8, -1, 0, 1, 2, impl.MaxStages, impl.MaxStages + 1, 7, impl.MaxRate, impl.MaxRate + 1, 20, 21, impl.MaxLong, impl.MaxLong + 1, 64, 65, impl.MaxBitList, impl.MaxScale, impl.MaxNumber, maxInt}
 	case []int:
 		lists := []any{}
 		for _, s := range slices.Concat(goodSignals(), badSignals(), goodWeights(), badWeights(), goodBits(), badBits()) {
@@ -198,7 +219,7 @@ func someSeconds() []impl.Second {
 func fewArgumentsOf(t *testing.T, kind reflect.Type) []any {
 	switch reflect.Zero(kind).Interface().(type) {
 	case int:
-		return []any{minInt, -1, 0, 1, 2, 3, 7, 20, 21, maxInt}
+		return []any{minInt, -1, 0, 1, 2, 3, impl.MaxStages, 7, impl.MaxRate, 20, 21, impl.MaxLong, maxInt}
 	case []int:
 		return []any{[]int(nil), []int{}, []int{3, -1, 4}, []int{-1000, 1}, repeat(1, impl.MaxWeights), repeat(1, impl.MaxWeights+1), repeat(-5, impl.MaxSignal), repeat(0, impl.MaxSignal+1), []int{impl.MaxSample}, []int{1, maxInt}, []int{minInt}}
 	case impl.Word:
@@ -369,6 +390,10 @@ func TestPromise11Chapter4(t *testing.T) {
 
 func TestPromise11Chapter5(t *testing.T) {
 	checkPromise11(t, chapter5())
+}
+
+func TestPromise11Chapter6(t *testing.T) {
+	checkPromise11(t, chapter6())
 }
 
 // The same list twice: a function must not write into one by the other.
