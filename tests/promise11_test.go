@@ -3,9 +3,11 @@ package tests
 import (
 	"fmt"
 	"reflect"
+	"runtime"
 	"slices"
 	"strings"
 	"testing"
+	"time"
 
 	"loop.example/g01198/impl"
 )
@@ -149,6 +151,26 @@ func chapter6() map[string]any {
 	}
 }
 
+// chapter7 are the functions of chapter 7 by their names.
+func chapter7() map[string]any {
+	return map[string]any{
+		"AreParts":       impl.AreParts,
+		"RunChain":       impl.RunChain,
+		"ChainSignals":   impl.ChainSignals,
+		"PeaksInside":    impl.PeaksInside,
+		"FirstChainFit":  impl.FirstChainFit,
+		"ExactChain":     impl.ExactChain,
+		"ShiftOfChain":   impl.ShiftOfChain,
+		"ChainError":     impl.ChainError,
+		"OrderParts":     impl.OrderParts,
+		"OrderError":     impl.OrderError,
+		"BestOrder":      impl.BestOrder,
+		"CountOutputs":   impl.CountOutputs,
+		"WeightsOfChain": impl.WeightsOfChain,
+		"ChainText":      impl.ChainText,
+	}
+}
+
 // argumentsOf are the values that a parameter of a type is tried with.
 func argumentsOf(t *testing.T, kind reflect.Type) []any {
 	switch reflect.Zero(kind).Interface().(type) {
@@ -156,7 +178,7 @@ func argumentsOf(t *testing.T, kind reflect.Type) []any {
 		return []any{minInt, -impl.MaxNumber - 1, -impl.MaxSample, -8, -1, 0, 1, 2, impl.MaxStages, impl.MaxStages + 1, 7, impl.MaxRate, impl.MaxRate + 1, 20, 21, impl.MaxLong, impl.MaxLong + 1, 64, 65, impl.MaxBitList, impl.MaxScale, impl.MaxNumber, maxInt}
 	case []int:
 		lists := []any{}
-		for _, s := range slices.Concat(goodSignals(), badSignals(), goodWeights(), badWeights(), goodBits(), badBits()) {
+		for _, s := range slices.Concat(goodSignals(), badSignals(), goodWeights(), badWeights(), goodBits(), badBits(), someOrders()) {
 			lists = append(lists, s)
 		}
 		return lists
@@ -174,6 +196,12 @@ func argumentsOf(t *testing.T, kind reflect.Type) []any {
 			filters = append(filters, f)
 		}
 		return filters
+	case []impl.First:
+		chains := []any{}
+		for _, parts := range someChains() {
+			chains = append(chains, parts)
+		}
+		return chains
 	case impl.Second:
 		filters := []any{impl.Second{}}
 		for _, f := range slices.Concat(someSeconds(), badSeconds()) {
@@ -212,6 +240,32 @@ func someSeconds() []impl.Second {
 		second(1023, 1, 10, impl.RoundZero, hold(11)),
 		second(-1024, -1024, 10, impl.RoundNear, wrap(16)),
 	}
+}
+
+// someChains are few parts that meet each limit, and few lists that are none.
+func someChains() [][]impl.First {
+	bad := first(1, 11, impl.RoundDown, hold(4))
+	many := slices.Repeat(someFirsts()[:1], impl.MaxParts)
+	return [][]impl.First{
+		nil,
+		{},
+		exampleParts(impl.RoundDown),
+		chain(none(wrap(4))),
+		chain(sums(hold(8)), none(hold(4)), halving(1)),
+		someFirsts()[:impl.MaxParts],
+		someFirsts()[impl.MaxParts:],
+		many,
+		append(many, many[0]),
+		{{}},
+		chain(bad, many[0]),
+		chain(many[0], bad, many[0]),
+		chain(many[0], many[0], many[0], bad),
+	}
+}
+
+// someOrders are orders of parts, and some that are none.
+func someOrders() [][]int {
+	return [][]int{{0, 1}, {1, 0}, {2, 0, 1}, {0, 1, 2, 3}, {1, 0, 3, 2}, {3, 2, 1, 0}, {0, 0}, {1, 2}, {-1, 0}, {0, 1, 2, 4}, {0, 1, 2, 3, 4}}
 }
 
 // fewArgumentsOf are so few that a function with many parameters can be tried
@@ -264,16 +318,27 @@ func combinations(choices [][]any, visit func([]any)) {
 const spare = 210
 const mark = 424242
 
+var partMark = impl.First{A: mark}
+
 // withRoom copies a list and puts marks into the room behind its length.
 func withRoom(s []int) []int {
-	return slices.Concat(s, repeat(mark, spare))[:len(s)]
+	return withMarks(s, mark)
 }
 
-func overwrite(s []int, x int) {
+func withMarks[T any](s []T, mark T) []T {
+	return slices.Concat(s, slices.Repeat([]T{mark}, spare))[:len(s)]
+}
+
+func overwrite[T any](s []T, x T) {
 	s = s[:cap(s)]
 	for i := range s {
 		s[i] = x
 	}
+}
+
+// isChanged reports whether a list withMarks is another one now, or its marks are.
+func isChanged[T comparable](now []T, before []T, mark T) bool {
+	return !slices.Equal(now[:len(before)+spare], withMarks(before, mark)[:len(before)+spare])
 }
 
 // callOnce calls f with copies of the arguments, and returns a text of the
@@ -286,8 +351,15 @@ func callOnce(f reflect.Value, arguments []any) (results string, broken string) 
 	}()
 	in := make([]reflect.Value, len(arguments))
 	for i, a := range arguments {
-		if s, ok := a.([]int); ok && s != nil {
-			a = withRoom(s)
+		switch s := a.(type) {
+		case []int:
+			if s != nil {
+				a = withRoom(s)
+			}
+		case []impl.First:
+			if s != nil {
+				a = withMarks(s, partMark)
+			}
 		}
 		in[i] = reflect.ValueOf(a)
 	}
@@ -303,6 +375,8 @@ func callOnce(f reflect.Value, arguments []any) (results string, broken string) 
 		switch s := o.Interface().(type) {
 		case []int:
 			overwrite(s, -mark)
+		case []impl.First:
+			overwrite(s, impl.First{A: -mark})
 		case [][]int:
 			if broken == "" {
 				broken = sharedBy(s)
@@ -331,12 +405,14 @@ func sharedBy(lists [][]int) string {
 
 func brokenBy(in []reflect.Value, arguments []any, what string) string {
 	for i, a := range arguments {
-		before, ok := a.([]int)
-		if !ok || before == nil {
-			continue
+		changed := false
+		switch before := a.(type) {
+		case []int:
+			changed = before != nil && isChanged(in[i].Interface().([]int), before, mark)
+		case []impl.First:
+			changed = before != nil && isChanged(in[i].Interface().([]impl.First), before, partMark)
 		}
-		now := in[i].Interface().([]int)
-		if !slices.Equal(now[:len(now)+spare], slices.Concat(before, repeat(mark, spare))) {
+		if changed {
 			return fmt.Sprint(what, " ", i)
 		}
 	}
@@ -396,6 +472,31 @@ func TestPromise11Chapter6(t *testing.T) {
 	checkPromise11(t, chapter6())
 }
 
+func TestPromise11Chapter7(t *testing.T) {
+	checkPromise11(t, chapter7())
+}
+
+// Each part ends its work with the call, also where a later one fails before it.
+func TestPromise11NoPartGoesOn(t *testing.T) {
+	before := runtime.NumGoroutine()
+	parts := chain(none(hold(4)), scaling(0), scaling(1024), scaling(1))
+	s := append([]int{impl.MaxSample}, repeat(1, impl.MaxSignal-1)...)
+	for range 100 {
+		for length := 1; length <= impl.MaxParts; length++ {
+			impl.RunChain(parts[:length], s)
+			list, ok := impl.ExactChain(parts[:length], s)
+			wantListIf(t, "exact", list, ok, s, length < 3)
+		}
+	}
+	for range 500 {
+		if runtime.NumGoroutine() <= before {
+			return
+		}
+		time.Sleep(10 * time.Millisecond)
+	}
+	t.Error("parts go on:", before, runtime.NumGoroutine())
+}
+
 // The same list twice: a function must not write into one by the other.
 func TestPromise11SameListTwice(t *testing.T) {
 	s := withRoom([]int{3, -1, 4})
@@ -414,4 +515,8 @@ func TestPromise11SameListTwice(t *testing.T) {
 	list, ok = impl.DivideWeights(s, s)
 	wantList(t, "quotient", list, ok, []int{1})
 	wantList(t, "argument", s[:3+spare], true, slices.Concat([]int{3, -1, 4}, repeat(mark, spare)))
+	order := []int{1, 0}
+	a, b, ok := impl.OrderError(exampleParts(impl.RoundDown), order, order)
+	wantTwo(t, "order error", a, b, ok, 1, 1)
+	wantList(t, "argument", order, true, []int{1, 0})
 }
