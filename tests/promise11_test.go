@@ -171,17 +171,46 @@ func chapter7() map[string]any {
 	}
 }
 
+// chapter8 are the functions of chapter 8 by their names.
+func chapter8() map[string]any {
+	return map[string]any{
+		"LengthAfter":      impl.LengthAfter,
+		"SourceOf":         impl.SourceOf,
+		"HoldSamples":      impl.HoldSamples,
+		"NearSamples":      impl.NearSamples,
+		"LineSamples":      impl.LineSamples,
+		"LinesOfSame":      impl.LinesOfSame,
+		"PhasesOf":         impl.PhasesOf,
+		"JoinPhases":       impl.JoinPhases,
+		"UpFilterDown":     impl.UpFilterDown,
+		"ByPhases":         impl.ByPhases,
+		"ProductsDirect":   impl.ProductsDirect,
+		"ProductsByPhases": impl.ProductsByPhases,
+		"LeastRatio":       impl.LeastRatio,
+		"DownFilter":       impl.DownFilter,
+		"UpFilter":         impl.UpFilter,
+		"TwoBands":         impl.TwoBands,
+		"JoinBands":        impl.JoinBands,
+	}
+}
+
 // argumentsOf are the values that a parameter of a type is tried with.
 func argumentsOf(t *testing.T, kind reflect.Type) []any {
 	switch reflect.Zero(kind).Interface().(type) {
 	case int:
-		return []any{minInt, -impl.MaxNumber - 1, -impl.MaxSample, -8, -1, 0, 1, 2, impl.MaxStages, impl.MaxStages + 1, 7, impl.MaxRate, impl.MaxRate + 1, 20, 21, impl.MaxLong, impl.MaxLong + 1, 64, 65, impl.MaxBitList, impl.MaxScale, impl.MaxNumber, maxInt}
+		return []any{minInt, -impl.MaxNumber - 1, -impl.MaxSample, -8, -1, 0, 1, 2, impl.MaxStages, impl.MaxStages + 1, 7, impl.MaxRate, impl.MaxRate + 1, 20, 21, impl.MaxLong, impl.MaxLong + 1, 64, 65, impl.MaxBitList, impl.MaxScale, impl.MaxScale + 1, impl.MaxNumber, maxInt}
 	case []int:
 		lists := []any{}
 		for _, s := range slices.Concat(goodSignals(), badSignals(), goodWeights(), badWeights(), goodBits(), badBits(), someOrders()) {
 			lists = append(lists, s)
 		}
 		return lists
+	case [][]int:
+		phases := []any{}
+		for _, lists := range somePhases() {
+			phases = append(phases, lists)
+		}
+		return phases
 	case string:
 		return []any{"", "-", "3,-1,4", "100001", "-0", ",", "\xff", strings.Repeat("1,", 1000), strings.Repeat("7", 1000)}
 	case impl.Word:
@@ -268,12 +297,38 @@ func someOrders() [][]int {
 	return [][]int{{0, 1}, {1, 0}, {2, 0, 1}, {0, 1, 2, 3}, {1, 0, 3, 2}, {3, 2, 1, 0}, {0, 0}, {1, 2}, {-1, 0}, {0, 1, 2, 4}, {0, 1, 2, 3, 4}}
 }
 
+// somePhases are phases of weights, and some that are none.
+func somePhases() [][][]int {
+	ones := slices.Repeat([][]int{{1}}, impl.MaxRatio)
+	return [][][]int{
+		nil,
+		{},
+		{nil},
+		{{}, {}},
+		{{1, 3}, {2}},
+		{{1}, {2}, {}, nil},
+		{{1}, {2, 3}},
+		{repeat(1000, impl.MaxWeights)},
+		{repeat(1, impl.MaxWeights+1)},
+		{repeat(1, 5), repeat(-1, 5)},
+		{repeat(1, impl.MaxSignal+1)},
+		{{1001}},
+		{{impl.MaxSample + 1}, {minInt}},
+		{{maxInt, 1}, {2}},
+		ones,
+		append([][]int{{1, 1}}, ones[1:]...),
+		append([][]int{{1}}, ones...),
+		make([][]int, impl.MaxRatio),
+		make([][]int, 1000),
+	}
+}
+
 // fewArgumentsOf are so few that a function with many parameters can be tried
 // with all combinations.
 func fewArgumentsOf(t *testing.T, kind reflect.Type) []any {
 	switch reflect.Zero(kind).Interface().(type) {
 	case int:
-		return []any{minInt, -1, 0, 1, 2, 3, impl.MaxStages, 7, impl.MaxRate, 20, 21, impl.MaxLong, maxInt}
+		return []any{minInt, -1, 0, 1, 2, 3, impl.MaxStages, 7, impl.MaxRate, impl.MaxRate + 1, 20, 21, impl.MaxLong, maxInt}
 	case []int:
 		return []any{[]int(nil), []int{}, []int{3, -1, 4}, []int{-1000, 1}, repeat(1, impl.MaxWeights), repeat(1, impl.MaxWeights+1), repeat(-5, impl.MaxSignal), repeat(0, impl.MaxSignal+1), []int{impl.MaxSample}, []int{1, maxInt}, []int{minInt}}
 	case impl.Word:
@@ -341,6 +396,30 @@ func isChanged[T comparable](now []T, before []T, mark T) bool {
 	return !slices.Equal(now[:len(before)+spare], withMarks(before, mark)[:len(before)+spare])
 }
 
+// withRooms copies lists and puts marks into the room behind each of them, and
+// behind all.
+func withRooms(lists [][]int) [][]int {
+	rooms := withMarks(lists, []int{mark})
+	for i, list := range rooms {
+		if list != nil {
+			rooms[i] = withRoom(list)
+		}
+	}
+	return rooms
+}
+
+// areChanged reports whether lists withRooms are other ones now, or their marks are.
+func areChanged(now [][]int, before [][]int) bool {
+	for i, list := range before {
+		if list == nil && now[i] != nil || list != nil && isChanged(now[i], list, mark) {
+			return true
+		}
+	}
+	return slices.ContainsFunc(now[len(before):len(before)+spare], func(list []int) bool {
+		return !slices.Equal(list, []int{mark})
+	})
+}
+
 // callOnce calls f with copies of the arguments, and returns a text of the
 // results and how the call broke the promise, if it did.
 func callOnce(f reflect.Value, arguments []any) (results string, broken string) {
@@ -360,6 +439,10 @@ func callOnce(f reflect.Value, arguments []any) (results string, broken string) 
 			if s != nil {
 				a = withMarks(s, partMark)
 			}
+		case [][]int:
+			if s != nil {
+				a = withRooms(s)
+			}
 		}
 		in[i] = reflect.ValueOf(a)
 	}
@@ -371,17 +454,20 @@ func callOnce(f reflect.Value, arguments []any) (results string, broken string) 
 	if broken == "" && !zeroIfFailed(out) {
 		broken = "a failed call with a result: " + results
 	}
+	var lists [][]int
 	for _, o := range out {
 		switch s := o.Interface().(type) {
 		case []int:
-			overwrite(s, -mark)
+			lists = append(lists, s)
 		case []impl.First:
 			overwrite(s, impl.First{A: -mark})
 		case [][]int:
-			if broken == "" {
-				broken = sharedBy(s)
-			}
+			lists = append(lists, s...)
+			overwrite(s, []int{-mark})
 		}
+	}
+	if broken == "" {
+		broken = sharedBy(lists)
 	}
 	if broken == "" {
 		broken = brokenBy(in, arguments, "memory shared with argument")
@@ -411,6 +497,8 @@ func brokenBy(in []reflect.Value, arguments []any, what string) string {
 			changed = before != nil && isChanged(in[i].Interface().([]int), before, mark)
 		case []impl.First:
 			changed = before != nil && isChanged(in[i].Interface().([]impl.First), before, partMark)
+		case [][]int:
+			changed = before != nil && areChanged(in[i].Interface().([][]int), before)
 		}
 		if changed {
 			return fmt.Sprint(what, " ", i)
@@ -476,6 +564,10 @@ func TestPromise11Chapter7(t *testing.T) {
 	checkPromise11(t, chapter7())
 }
 
+func TestPromise11Chapter8(t *testing.T) {
+	checkPromise11(t, chapter8())
+}
+
 // Each part ends its work with the call, also where a later one fails before it.
 func TestPromise11NoPartGoesOn(t *testing.T) {
 	before := runtime.NumGoroutine()
@@ -519,4 +611,15 @@ func TestPromise11SameListTwice(t *testing.T) {
 	a, b, ok := impl.OrderError(exampleParts(impl.RoundDown), order, order)
 	wantTwo(t, "order error", a, b, ok, 1, 1)
 	wantList(t, "argument", order, true, []int{1, 0})
+	list, ok = impl.ByPhases(s, s, 2, 1)
+	wantList(t, "by phases", list, ok, []int{9, -3, 9, 1, 8, -4})
+	list, ok = impl.UpFilterDown(s, s, 2, 1)
+	wantList(t, "filtered", list, ok, []int{9, -3, 9, 1, 8, -4})
+	list, ok = impl.JoinPhases([][]int{s, s})
+	wantList(t, "joined phases", list, ok, []int{3, 3, -1, -1, 4, 4})
+	list, ok = impl.JoinPhases([][]int{s, s[:2]})
+	wantList(t, "joined phases", list, ok, []int{3, 3, -1, -1, 4})
+	list, ok = impl.JoinBands(s, s)
+	wantList(t, "joined bands", list, ok, []int{5, 2, -1, 0, 6, 2})
+	wantList(t, "argument", s[:3+spare], true, slices.Concat([]int{3, -1, 4}, repeat(mark, spare)))
 }
