@@ -194,11 +194,32 @@ func chapter8() map[string]any {
 	}
 }
 
+// chapter9 are the functions of chapter 9 by their names.
+func chapter9() map[string]any {
+	return map[string]any{
+		"FourTone":      impl.FourTone,
+		"FourPowers":    impl.FourPowers,
+		"SixTone":       impl.SixTone,
+		"SixPowers":     impl.SixPowers,
+		"ToneOfPart":    impl.ToneOfPart,
+		"ToneStates":    impl.ToneStates,
+		"TonePower":     impl.TonePower,
+		"StrongestPart": impl.StrongestPart,
+		"StepBits":      impl.StepBits,
+		"StepsOfBits":   impl.StepsOfBits,
+		"StepValues":    impl.StepValues,
+		"StepGaps":      impl.StepGaps,
+		"GreatestGap":   impl.GreatestGap,
+		"FixedBits":     impl.FixedBits,
+		"FixedValues":   impl.FixedValues,
+	}
+}
+
 // argumentsOf are the values that a parameter of a type is tried with.
 func argumentsOf(t *testing.T, kind reflect.Type) []any {
 	switch reflect.Zero(kind).Interface().(type) {
 	case int:
-		return []any{minInt, -impl.MaxNumber - 1, -impl.MaxSample, -8, -1, 0, 1, 2, impl.MaxStages, impl.MaxStages + 1, 7, impl.MaxRate, impl.MaxRate + 1, 20, 21, impl.MaxLong, impl.MaxLong + 1, 64, 65, impl.MaxBitList, impl.MaxScale, impl.MaxScale + 1, impl.MaxNumber, maxInt}
+		return []any{minInt, -impl.MaxNumber - 1, -impl.MaxSample, -8, -1, 0, 1, 2, 3, impl.MaxStages, impl.MaxStages + 1, 6, 7, impl.MaxRate, impl.MaxRate + 1, 20, 21, impl.MaxLong, impl.MaxLong + 1, 64, 65, impl.MaxBitList, impl.MaxScale, impl.MaxScale + 1, impl.MaxStep, impl.MaxStep + 1, impl.MaxNumber, maxInt}
 	case []int:
 		lists := []any{}
 		for _, s := range slices.Concat(goodSignals(), badSignals(), goodWeights(), badWeights(), goodBits(), badBits(), someOrders()) {
@@ -328,7 +349,7 @@ func somePhases() [][][]int {
 func fewArgumentsOf(t *testing.T, kind reflect.Type) []any {
 	switch reflect.Zero(kind).Interface().(type) {
 	case int:
-		return []any{minInt, -1, 0, 1, 2, 3, impl.MaxStages, 7, impl.MaxRate, impl.MaxRate + 1, 20, 21, impl.MaxLong, maxInt}
+		return []any{minInt, -1, 0, 1, 2, 3, impl.MaxStages, 6, 7, impl.MaxRate, impl.MaxRate + 1, 20, 21, impl.MaxLong, maxInt}
 	case []int:
 		return []any{[]int(nil), []int{}, []int{3, -1, 4}, []int{-1000, 1}, repeat(1, impl.MaxWeights), repeat(1, impl.MaxWeights+1), repeat(-5, impl.MaxSignal), repeat(0, impl.MaxSignal+1), []int{impl.MaxSample}, []int{1, maxInt}, []int{minInt}}
 	case impl.Word:
@@ -566,6 +587,10 @@ func TestPromise11Chapter7(t *testing.T) {
 
 func TestPromise11Chapter8(t *testing.T) {
 	checkPromise11(t, chapter8())
+}
+
+func TestPromise11Chapter9(t *testing.T) {
+	checkPromise11(t, chapter9())
 }
 
 // Each part ends its work with the call, also where a later one fails before it.
