@@ -227,14 +227,7 @@ func SignalText(s []int) (string, bool) {
 	if !IsSignal(s) {
 		return "", false
 	}
-	if len(s) == 0 {
-		return "-", true
-	}
-	texts := make([]string, len(s))
-	for i, x := range s {
-		texts[i] = strconv.Itoa(x)
-	}
-	return strings.Join(texts, ","), true
+	return listText(s), true
 }
 
 // ParseSignal returns the signal with a SignalText. It fails if there is none.
@@ -265,6 +258,18 @@ func readSamples(t string) ([]int, bool) {
 		s[i] = x
 	}
 	return s, true
+}
+
+// listText writes any numbers as SignalText writes samples.
+func listText(list []int) string {
+	if len(list) == 0 {
+		return "-"
+	}
+	texts := make([]string, len(list))
+	for i, x := range list {
+		texts[i] = strconv.Itoa(x)
+	}
+	return strings.Join(texts, ",")
 }
 
 func onlySignal(list []int) ([]int, bool) {

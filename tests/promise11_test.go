@@ -215,6 +215,18 @@ func chapter9() map[string]any {
 	}
 }
 
+// chapter10 are the functions of chapter 10 by their names.
+func chapter10() map[string]any {
+	return map[string]any{
+		"FirstDesk":   impl.FirstDesk,
+		"IsDesk":      impl.IsDesk,
+		"DeskLine":    impl.DeskLine,
+		"RunScript":   impl.RunScript,
+		"DeskAfter":   impl.DeskAfter,
+		"FailedLines": impl.FailedLines,
+	}
+}
+
 // argumentsOf are the values that a parameter of a type is tried with.
 func argumentsOf(t *testing.T, kind reflect.Type) []any {
 	switch reflect.Zero(kind).Interface().(type) {
@@ -233,7 +245,17 @@ func argumentsOf(t *testing.T, kind reflect.Type) []any {
 		}
 		return phases
 	case string:
-		return []any{"", "-", "3,-1,4", "100001", "-0", ",", "\xff", strings.Repeat("1,", 1000), strings.Repeat("7", 1000)}
+		texts := []any{"", "-", "3,-1,4", "100001", "-0", ",", "\xff", strings.Repeat("1,", 1000), strings.Repeat("7", 1000)}
+		for _, text := range slices.Concat(someLines(), someScripts()) {
+			texts = append(texts, text)
+		}
+		return texts
+	case impl.Desk:
+		desks := []any{}
+		for _, d := range slices.Concat(goodDesks(), badDesks()) {
+			desks = append(desks, d)
+		}
+		return desks
 	case impl.Word:
 		words := []any{impl.Word{Bits: 2}, impl.Word{Bits: 4, Wrap: true}, impl.Word{Bits: 16}, impl.Word{Bits: 16, Wrap: true}}
 		for _, w := range badWords {
@@ -341,6 +363,40 @@ func somePhases() [][][]int {
 		append([][]int{{1}}, ones...),
 		make([][]int, impl.MaxRatio),
 		make([][]int, 1000),
+	}
+}
+
+// someLines are lines of the table with words at and past each limit, and lines
+// that are none.
+func someLines() []string {
+	lines := append(goodLines(), " ", "fly", "show ", " show", "show\n", "word 17 wrap", "word 4 wraps", "signal -", "weigh -", strings.Repeat("x", impl.MaxScript), strings.Repeat("x", impl.MaxScript+1), strings.Repeat(" ", impl.MaxScript))
+	for _, name := range commands() {
+		for _, number := range []string{"0", "1", "2", "8", "10", "11", "64", "4096", "999999", "1000000", "-1", "-999999", "-9223372036854775808", ""} {
+			line := strings.Join(otherWords(name, spokenLines()[name].kinds, number), " ")
+			if !slices.Contains(lines, line) {
+				lines = append(lines, line)
+			}
+		}
+	}
+	return lines
+}
+
+// someScripts meet each limit, and some are none.
+func someScripts() []string {
+	return []string{
+		"\n",
+		"\n\n",
+		scriptOf(goodLines()),
+		scriptOf(goodLines()) + "show",
+		scriptOf(someLines()[:40]),
+		strings.Repeat("sums\n", impl.MaxLines),
+		strings.Repeat("sums\n", impl.MaxLines+1),
+		strings.Repeat("hold 2 1\nsix\n", impl.MaxLines/2),
+		padded(impl.MaxScript),
+		padded(impl.MaxScript + 1),
+		strings.Repeat("\n", impl.MaxScript),
+		strings.Repeat("\xff", impl.MaxScript-1) + "\n",
+		strings.Repeat("show\n", 100000),
 	}
 }
 
@@ -464,6 +520,10 @@ func callOnce(f reflect.Value, arguments []any) (results string, broken string) 
 			if s != nil {
 				a = withRooms(s)
 			}
+		case impl.Desk:
+			if s.Signal != nil {
+				a = impl.Desk{Signal: withRoom(s.Signal), Word: s.Word}
+			}
 		}
 		in[i] = reflect.ValueOf(a)
 	}
@@ -485,6 +545,8 @@ func callOnce(f reflect.Value, arguments []any) (results string, broken string) 
 		case [][]int:
 			lists = append(lists, s...)
 			overwrite(s, []int{-mark})
+		case impl.Desk:
+			lists = append(lists, s.Signal)
 		}
 	}
 	if broken == "" {
@@ -520,6 +582,8 @@ func brokenBy(in []reflect.Value, arguments []any, what string) string {
 			changed = before != nil && isChanged(in[i].Interface().([]impl.First), before, partMark)
 		case [][]int:
 			changed = before != nil && areChanged(in[i].Interface().([][]int), before)
+		case impl.Desk:
+			changed = before.Signal != nil && isChanged(in[i].Interface().(impl.Desk).Signal, before.Signal, mark)
 		}
 		if changed {
 			return fmt.Sprint(what, " ", i)
@@ -529,7 +593,8 @@ func brokenBy(in []reflect.Value, arguments []any, what string) string {
 }
 
 func zeroIfFailed(out []reflect.Value) bool {
-	if out[len(out)-1].Bool() {
+	last := out[len(out)-1]
+	if last.Kind() != reflect.Bool || last.Bool() {
 		return true
 	}
 	for _, o := range out {
@@ -591,6 +656,10 @@ func TestPromise11Chapter8(t *testing.T) {
 
 func TestPromise11Chapter9(t *testing.T) {
 	checkPromise11(t, chapter9())
+}
+
+func TestPromise11Chapter10(t *testing.T) {
+	checkPromise11(t, chapter10())
 }
 
 // Each part ends its work with the call, also where a later one fails before it.
